@@ -1,93 +1,146 @@
 package tests
 
 import (
-	"math"
 	"testing"
 
 	"loop.example/g01178/impl"
 )
 
-// wholeNumbers has those near 0, around each power of two, and near the bounds.
-func wholeNumbers() []int {
-	var list []int
-	for n := range 300 {
-		list = append(list, n)
-	}
-	for power := 256; power < impl.MaxWholeNumber; power *= 2 {
-		for off := -9; off <= 9; off++ {
-			list = append(list, power+off, power+power/2+off, power+power/4*3+off)
-		}
-		// Ties of formats with many fraction bits, and what is beside them.
-		for step := 2; step < power; step *= 2 {
-			list = append(list, power+step, power+step-1, power+step+1, power+3*step)
+func checkConvert(t *testing.T, f, g impl.Format, p int) {
+	t.Helper()
+	for _, mode := range modes {
+		got, ok := impl.ConvertOf(f, g, p, mode)
+		if want := convert(f, g, p, mode); !ok || got != want {
+			t.Fatalf("ConvertOf of %v, %v and %d in mode %d: got %d, %v, want %d", f, g, p, mode, got, ok, want)
 		}
 	}
-	for n := range 20 {
-		list = append(list, impl.MaxWholeNumber-n)
-	}
-	var both []int
-	for _, n := range list {
-		if n <= impl.MaxWholeNumber {
-			both = append(both, n, -n)
-		}
-	}
-	return both
 }
 
-func TestFromWhole(t *testing.T) {
-	numbers := wholeNumbers()
+func TestConvertOf(t *testing.T) {
 	for _, f := range allFormats() {
-		r := rulerOf(f)
-		for _, n := range numbers {
-			for _, mode := range modes {
-				got, ok := impl.FromWhole(f, n, mode)
-				wantResult(t, "FromWhole", f, mode, got, ok, r.float(float64(n), mode), n)
+		for _, g := range allFormats() {
+			for _, p := range patternsFor(f) {
+				checkConvert(t, f, g, p)
 			}
 		}
 	}
 }
 
-func TestFromWholeAtEdges(t *testing.T) {
-	for _, c := range []struct {
-		n    int
-		want byMode
-	}{
-		{0, always(plusZero)},
-		{1, always(one)},
-		{-1, always(minusOne)},
-		{3, always(three)},
-		{17, byMode{sixteen, eighteen, sixteen, eighteen, sixteen, eighteen}},
-		{-17, byMode{sixteen + 128, eighteen + 128, sixteen + 128, sixteen + 128, eighteen + 128, eighteen + 128}},
-		{240, always(greatest)},
-		{247, byMode{greatest, greatest, greatest, infinite, greatest, greatest}},
-		{248, byMode{infinite, infinite, greatest, infinite, greatest, greatest}},
-		{impl.MaxWholeNumber, byMode{infinite, infinite, greatest, infinite, greatest, greatest}},
-		{-impl.MaxWholeNumber, byMode{minusInfinite, minusInfinite, minusGreatest, minusGreatest, minusInfinite, minusGreatest}},
-	} {
-		for i, mode := range modes {
-			got, ok := impl.FromWhole(example, c.n, mode)
-			wantResult(t, "FromWhole", example, mode, got, ok, c.want[i], c.n)
+// TestConvertOfLargest goes over all patterns of the format that holds all
+// others, so over all values and midpoints of most of them.
+func TestConvertOfLargest(t *testing.T) {
+	for _, g := range fewFormats() {
+		for _, p := range allPatterns(largest) {
+			checkConvert(t, largest, g, p)
 		}
 	}
 }
 
-func TestFromWholeRequiresItsArguments(t *testing.T) {
-	for _, n := range []int{0, 1, -3, impl.MaxWholeNumber} {
-		for _, f := range notFormats() {
-			got, ok := impl.FromWhole(f, n, impl.ModeEven)
-			wantNone(t, "FromWhole", f, n, got, ok)
+// TestConvertOfToItself: only no numbers change.
+func TestConvertOfToItself(t *testing.T) {
+	for _, f := range allFormats() {
+		for _, p := range allPatterns(f) {
+			got, ok := impl.ConvertOf(f, f, p, impl.ModeOdd)
+			wantResult(t, "ConvertOf to itself", f, impl.ModeOdd, got, ok, kept(f, p), p)
 		}
-		for _, mode := range notModes() {
-			got, ok := impl.FromWhole(example, n, mode)
-			wantNone(t, "FromWhole", example, mode, got, ok)
+	}
+}
+
+// TestHeldFormatsLoseNothing: what is converted to a format that holds the own
+// one and back again is the same pattern, in all modes.
+func TestHeldFormatsLoseNothing(t *testing.T) {
+	for _, f := range allFormats() {
+		for _, g := range allFormats() {
+			if is, _ := impl.HoldsFormat(f, g); !is {
+				continue
+			}
+			for _, p := range patternsFor(f) {
+				checkThereAndBack(t, f, g, p)
+			}
+		}
+	}
+}
+
+func checkThereAndBack(t *testing.T, f, g impl.Format, p int) {
+	t.Helper()
+	want := kept(f, p)
+	for _, mode := range modes {
+		there, ok := impl.ConvertOf(f, g, p, mode)
+		back, fine := impl.ConvertOf(g, f, there, mode)
+		if !ok || !fine || back != want {
+			t.Fatalf("%d of %v there and back through %v in mode %d: got %d, %v, %v, want %d", p, f, g, mode, back, ok, fine, want)
+		}
+	}
+}
+
+func TestHoldsFormat(t *testing.T) {
+	for _, f := range allFormats() {
+		for _, g := range allFormats() {
+			got, ok := impl.HoldsFormat(f, g)
+			if want := holds(f, g); !ok || got != want {
+				t.Fatalf("HoldsFormat of %v and %v: got %v, %v, want %v", f, g, got, ok, want)
+			}
+		}
+	}
+}
+
+// TestLeastHolding: there is always a format that holds both, as the largest
+// one holds all. So LeastHolding never fails for formats.
+func TestLeastHolding(t *testing.T) {
+	isHeld := map[[2]impl.Format]bool{}
+	for _, f := range allFormats() {
+		for _, g := range allFormats() {
+			isHeld[[2]impl.Format{f, g}] = holds(f, g)
 		}
 	}
 	for _, f := range allFormats() {
-		for _, n := range []int{impl.MaxWholeNumber + 1, -impl.MaxWholeNumber - 1, 1 << 40, math.MinInt, math.MinInt + 1, math.MaxInt} {
-			for _, mode := range modes {
-				got, ok := impl.FromWhole(f, n, mode)
-				wantNone(t, "FromWhole", f, n, got, ok)
+		if !isHeld[[2]impl.Format{f, largest}] {
+			t.Fatalf("%v is not held by the largest format", f)
+		}
+		for _, g := range allFormats() {
+			want := leastOf(func(h impl.Format) bool {
+				return isHeld[[2]impl.Format{f, h}] && isHeld[[2]impl.Format{g, h}]
+			})
+			got, ok := impl.LeastHolding(f, g)
+			if !ok || got != want {
+				t.Fatalf("LeastHolding of %v and %v: got %v, %v, want %v", f, g, got, ok, want)
 			}
+		}
+	}
+}
+
+// leastOf returns the format of the least width, and of these with the least
+// Exponent, that is one of those.
+func leastOf(isOne func(h impl.Format) bool) impl.Format {
+	least := impl.Format{}
+	for _, h := range allFormats() {
+		isLess := least == impl.Format{} || widthOf(h) < widthOf(least) ||
+			widthOf(h) == widthOf(least) && h.Exponent < least.Exponent
+		if isLess && isOne(h) {
+			least = h
+		}
+	}
+	return least
+}
+
+func TestCountLostAndCountShared(t *testing.T) {
+	common := map[[2]impl.Format]int{}
+	for _, f := range allFormats() {
+		for _, g := range allFormats() {
+			got, ok := impl.CountLost(f, g)
+			if want := lost(f, g); !ok || got != want {
+				t.Fatalf("CountLost of %v and %v: got %d, %v, want %d", f, g, got, ok, want)
+			}
+			got, ok = impl.CountShared(f, g)
+			if want := shared(f, g); !ok || got != want {
+				t.Fatalf("CountShared of %v and %v: got %d, %v, want %d", f, g, got, ok, want)
+			}
+			common[[2]impl.Format{f, g}] = got
+		}
+	}
+	for pair, n := range common {
+		if other := common[[2]impl.Format{pair[1], pair[0]}]; other != n {
+			t.Errorf("CountShared of %v: got %d, and %d the other way round", pair, n, other)
 		}
 	}
 }
